@@ -73,3 +73,74 @@ func overwrite(result []int) {
 		result[i] = -77 - i
 	}
 }
+
+// guardedActs is a list of acts with marked room around it, of which each act
+// is guarded.
+type guardedActs struct {
+	list  []impl.Act
+	whole []impl.Act
+	asWas []impl.Act
+	acts  []guardedAct
+}
+
+func guardActs(l []impl.Act) guardedActs {
+	mark := func(i int) impl.Act { return impl.Act{R: math.MinInt + i, Dep: []int{i}, Ups: []impl.Up{{Val: i}}} }
+	g := guardedActs{whole: make([]impl.Act, len(l)+2*spareRoom)}
+	for i := range g.whole {
+		g.whole[i] = mark(i)
+	}
+	for i, a := range l {
+		g.acts = append(g.acts, guardAct(a))
+		g.whole[spareRoom+i] = g.acts[i].act
+	}
+	g.list = g.whole[spareRoom : spareRoom+len(l)]
+	g.asWas = slices.Clone(g.whole)
+	return g
+}
+
+func (g guardedActs) check(t *testing.T, what string) {
+	t.Helper()
+	for i, a := range g.whole {
+		if !impl.SameAct(a, g.asWas[i]) || !sameRoom(a.Dep, g.asWas[i].Dep) || !sameRoom(a.Ups, g.asWas[i].Ups) {
+			t.Fatalf("%s: act %d of an argument was written: %v, was %v", what, i-spareRoom, a, g.asWas[i])
+		}
+	}
+	for _, a := range g.acts {
+		a.check(t, what)
+	}
+}
+
+// sameRoom says whether both lists are one and the same memory.
+func sameRoom[T any](a, b []T) bool {
+	return len(a) == len(b) && cap(a) == cap(b) && (cap(a) == 0 || &a[:1][0] == &b[:1][0])
+}
+
+// overwriteActs fills a result, each list of it, and the spare room behind
+// them. It fails if two lists of the result share memory.
+func overwriteActs(t *testing.T, result []impl.Act) {
+	t.Helper()
+	result = result[:cap(result)]
+	for i, a := range result {
+		fill(a.Dep, -1000-i)
+		fill(a.Ups, impl.Up{Val: -1000 - i})
+	}
+	for i, a := range result {
+		if !filled(a.Dep, -1000-i) || !filled(a.Ups, impl.Up{Val: -1000 - i}) {
+			t.Fatal("two lists of one answer share memory", i)
+		}
+	}
+	for i := range result {
+		result[i] = impl.Act{R: -1000 - i}
+	}
+}
+
+func fill[T any](l []T, value T) {
+	l = l[:cap(l)]
+	for i := range l {
+		l[i] = value
+	}
+}
+
+func filled[T comparable](l []T, value T) bool {
+	return !slices.ContainsFunc(l[:cap(l)], func(x T) bool { return x != value })
+}
