@@ -144,3 +144,57 @@ func fill[T any](l []T, value T) {
 func filled[T comparable](l []T, value T) bool {
 	return !slices.ContainsFunc(l[:cap(l)], func(x T) bool { return x != value })
 }
+
+// guardedThings is a list of things with marked room around it, of which each
+// list is guarded.
+type guardedThings struct {
+	list  []impl.Thing
+	whole []impl.Thing
+	asWas []impl.Thing
+	items []guarded[int]
+}
+
+func guardThings(l []impl.Thing) guardedThings {
+	g := guardedThings{whole: make([]impl.Thing, len(l)+2*spareRoom)}
+	for i := range g.whole {
+		g.whole[i] = impl.Thing{Bucket: math.MinInt + i, Items: []int{i}}
+	}
+	for i, x := range l {
+		g.items = append(g.items, guardInts(x.Items))
+		x.Items = g.items[i].list
+		g.whole[spareRoom+i] = x
+	}
+	g.list = g.whole[spareRoom : spareRoom+len(l)]
+	g.asWas = slices.Clone(g.whole)
+	return g
+}
+
+func (g guardedThings) check(t *testing.T) {
+	t.Helper()
+	for i, x := range g.whole {
+		if !plainSameThing(x, g.asWas[i]) || !sameRoom(x.Items, g.asWas[i].Items) {
+			t.Fatalf("thing %d of an argument was written: %v, was %v", i-spareRoom, x, g.asWas[i])
+		}
+	}
+	for _, items := range g.items {
+		items.check(t, "Items")
+	}
+}
+
+// overwriteThings fills a result, each list of it, and the spare room behind
+// them. It fails if two lists of the result share memory.
+func overwriteThings(t *testing.T, result []impl.Thing) {
+	t.Helper()
+	result = result[:cap(result)]
+	for i, x := range result {
+		fill(x.Items, -1000-i)
+	}
+	for i, x := range result {
+		if !filled(x.Items, -1000-i) {
+			t.Fatal("two lists of one answer share memory", i)
+		}
+	}
+	for i := range result {
+		result[i] = impl.Thing{Bucket: -1000 - i}
+	}
+}
