@@ -198,3 +198,44 @@ func overwriteThings(t *testing.T, result []impl.Thing) {
 		result[i] = impl.Thing{Bucket: -1000 - i}
 	}
 }
+
+// guardedPlace is a place whose lists are guarded.
+type guardedPlace struct {
+	place      impl.Place
+	acts, wait guardedActs
+	flags      guarded[bool]
+}
+
+func guardPlace(p impl.Place) guardedPlace {
+	g := guardedPlace{place: p, acts: guardActs(p.L), wait: guardActs(p.Wait), flags: guardFlags(p.V)}
+	g.place.L, g.place.V, g.place.Wait = g.acts.list, g.flags.list, g.wait.list
+	return g
+}
+
+func (g guardedPlace) check(t *testing.T, what string) {
+	t.Helper()
+	g.acts.check(t, what+", L")
+	g.wait.check(t, what+", Wait")
+	g.flags.check(t, what+", V")
+}
+
+// overwritePlace fills a place, and acts that came back with it, each list of
+// them, and the spare room behind them. It fails if two lists share memory.
+func overwritePlace(t *testing.T, p impl.Place, with ...impl.Act) {
+	t.Helper()
+	known, waiting := p.L[:cap(p.L)], p.Wait[:cap(p.Wait)]
+	overwriteActs(t, slices.Concat(known, waiting, with))
+	for i := range known {
+		known[i] = impl.Act{R: -1}
+	}
+	for i := range waiting {
+		waiting[i] = impl.Act{R: -2}
+	}
+	if slices.ContainsFunc(known, func(a impl.Act) bool { return a.R != -1 }) {
+		t.Fatal("L and Wait of one answer share memory")
+	}
+	flags := p.V[:cap(p.V)]
+	for i, flag := range flags {
+		flags[i] = !flag
+	}
+}
