@@ -158,23 +158,27 @@ func checkPlaceOk(t *testing.T, p impl.Place, want bool) {
 	g.check(t, "PlaceOk")
 }
 
-// checkSay asks twice, and overwrites what comes back first: neither the second
+// checkSaid asks twice, and overwrites what comes back first: neither the second
 // nor a third answer may change.
-func checkSay(t *testing.T, p impl.Place, a impl.Act, want said) {
+func checkSaid(t *testing.T, what string, want said, give func() said) {
 	t.Helper()
-	g, h := guardPlace(p), guardAct(a)
-	give := func() said {
-		q, b, code := impl.Say(g.place, h.act)
-		return said{q, b, code}
-	}
 	first, second := give(), give()
 	if !first.same(want) {
-		t.Fatalf("Say(%+v, %+v): %+v, not %+v", p, a, first, want)
+		t.Fatalf("%s: %+v, not %+v", what, first, want)
 	}
 	overwritePlace(t, first.place, first.act)
 	if !second.same(want) || !give().same(want) {
-		t.Fatal("answers of Say share memory, or one is kept")
+		t.Fatal("answers share memory, or one is kept:", what)
 	}
+}
+
+func checkSay(t *testing.T, p impl.Place, a impl.Act, want said) {
+	t.Helper()
+	g, h := guardPlace(p), guardAct(a)
+	checkSaid(t, "Say", want, func() said {
+		q, b, code := impl.Say(g.place, h.act)
+		return said{q, b, code}
+	})
 	g.check(t, "Say")
 	h.check(t, "Say")
 }
@@ -364,61 +368,69 @@ func TestBusyPlace(t *testing.T) {
 	}
 }
 
-// TestNoPlaces has places of which one field alone is not as it should be.
-func TestNoPlaces(t *testing.T) {
+// noPlaces gives places of which one field alone is not as it should be.
+func noPlaces(t *testing.T) []impl.Place {
 	good := busyPlace()
-	acts := append(slices.Clone(good.L), good.Wait...)
-	check := func(do func(p *impl.Place)) {
+	var places []impl.Place
+	spoil := func(do func(p *impl.Place)) {
 		t.Helper()
 		p := copyPlace(good)
 		do(&p)
 		if plainPlaceOk(p) {
 			t.Fatal("this one is good", p)
 		}
-		checkNoPlace(t, p, acts...)
+		places = append(places, p)
 	}
 	for _, id := range []int{math.MinInt, -3, -1, 3, 4, math.MaxInt} {
-		check(func(p *impl.Place) { p.Id = id })
+		spoil(func(p *impl.Place) { p.Id = id })
 	}
 	for _, n := range []int{math.MinInt, -1, 0, 1, 2, 4, 5, math.MaxInt} {
-		check(func(p *impl.Place) { p.N = n })
+		spoil(func(p *impl.Place) { p.N = n })
 	}
 	for k := range good.V {
-		check(func(p *impl.Place) { p.V[k] = !p.V[k] })
-		check(func(p *impl.Place) { p.V = slices.Delete(p.V, k, k+1) })
-		check(func(p *impl.Place) { p.V = p.V[:k] })
-		check(func(p *impl.Place) { p.V = slices.Insert(p.V, k, p.V[k]) })
+		spoil(func(p *impl.Place) { p.V[k] = !p.V[k] })
+		spoil(func(p *impl.Place) { p.V = slices.Delete(p.V, k, k+1) })
+		spoil(func(p *impl.Place) { p.V = p.V[:k] })
+		spoil(func(p *impl.Place) { p.V = slices.Insert(p.V, k, p.V[k]) })
 	}
-	check(func(p *impl.Place) { p.V = append(p.V, true) })
-	check(func(p *impl.Place) { p.V = append(p.V, false) })
-	check(func(p *impl.Place) { p.L = nil })
-	check(func(p *impl.Place) { p.L, p.V = nil, append(p.V[:0], true) })
+	spoil(func(p *impl.Place) { p.V = append(p.V, true) })
+	spoil(func(p *impl.Place) { p.V = append(p.V, false) })
+	spoil(func(p *impl.Place) { p.L = nil })
+	spoil(func(p *impl.Place) { p.L, p.V = nil, append(p.V[:0], true) })
 	for k, a := range good.L {
-		check(func(p *impl.Place) { p.Wait = append(p.Wait, a) })
-		check(func(p *impl.Place) { p.Wait = slices.Insert(p.Wait, 0, a) })
+		spoil(func(p *impl.Place) { p.Wait = append(p.Wait, a) })
+		spoil(func(p *impl.Place) { p.Wait = slices.Insert(p.Wait, 0, a) })
 		other := copyAct(a)
 		other.Actor = 5 - other.Actor // another act of that R and N
-		check(func(p *impl.Place) { p.Wait = append(p.Wait, other) })
-		check(func(p *impl.Place) { p.L[k].N++ })
-		check(func(p *impl.Place) { p.L[k].Kind = 0 })
+		spoil(func(p *impl.Place) { p.Wait = append(p.Wait, other) })
+		spoil(func(p *impl.Place) { p.L[k].N++ })
+		spoil(func(p *impl.Place) { p.L[k].Kind = 0 })
 	}
 	for k, a := range good.Wait {
 		other := copyAct(a)
 		other.Actor = 5 - other.Actor
 		for _, twice := range []impl.Act{a, other} {
-			check(func(p *impl.Place) { p.Wait = append(p.Wait, twice) })
-			check(func(p *impl.Place) { p.Wait = slices.Insert(p.Wait, 0, twice) })
+			spoil(func(p *impl.Place) { p.Wait = append(p.Wait, twice) })
+			spoil(func(p *impl.Place) { p.Wait = slices.Insert(p.Wait, 0, twice) })
 		}
 		for _, bad := range changes(a) {
 			if !plainActOk(bad, 3) {
-				check(func(p *impl.Place) { p.Wait[k] = bad })
+				spoil(func(p *impl.Place) { p.Wait[k] = bad })
 			}
 		}
 	}
 	for _, a := range []impl.Act{{}, does(0), act(0, 9, 8), act(0, 9, 8, 0), act(0, 9, 8, 0, 0, 0), act(3, 1, 0, 0, 0)} {
-		check(func(p *impl.Place) { p.Wait = append(p.Wait, a) })
+		spoil(func(p *impl.Place) { p.Wait = append(p.Wait, a) })
 	}
-	check(func(p *impl.Place) { p.Wait = append(p.Wait, farActs(19, 0, 3)...) })
+	spoil(func(p *impl.Place) { p.Wait = append(p.Wait, farActs(19, 0, 3)...) })
+	return places
+}
+
+func TestNoPlaces(t *testing.T) {
+	good := busyPlace()
+	for _, p := range noPlaces(t) {
+		checkNoPlace(t, p, append(slices.Clone(good.L), good.Wait...)...)
+	}
 }
 
 // TestPlacesOfSpoiledActs: L is not SetOk, and V has a flag for each act, or none.

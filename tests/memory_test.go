@@ -239,3 +239,29 @@ func overwritePlace(t *testing.T, p impl.Place, with ...impl.Act) {
 		flags[i] = !flag
 	}
 }
+
+// guardedTx is a transaction whose lists are guarded.
+type guardedTx struct {
+	tx   impl.Tx
+	snap guarded[int]
+	ups  guarded[impl.Up]
+}
+
+func guardTx(x impl.Tx) guardedTx {
+	g := guardedTx{tx: x, snap: guardInts(x.Snap)}
+	g.ups = guard(x.Ups, func(i int) impl.Up { return impl.Up{Kind: impl.UpAdd, Val: math.MinInt + i} })
+	g.tx.Snap, g.tx.Ups = g.snap.list, g.ups.list
+	return g
+}
+
+func (g guardedTx) check(t *testing.T, what string) {
+	t.Helper()
+	g.snap.check(t, what+", Snap")
+	g.ups.check(t, what+", Ups of the transaction")
+}
+
+// overwriteTx fills the lists of a transaction and the spare room behind them.
+func overwriteTx(x impl.Tx) {
+	fill(x.Snap, -1000)
+	fill(x.Ups, impl.Up{Val: -1000})
+}
