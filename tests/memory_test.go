@@ -265,3 +265,144 @@ func overwriteTx(x impl.Tx) {
 	fill(x.Snap, -1000)
 	fill(x.Ups, impl.Up{Val: -1000})
 }
+
+// guardedWorld is a world whose lists are guarded, and all lists in them.
+type guardedWorld struct {
+	world                impl.World
+	houses, housesAsWere []impl.House
+	net, netAsWas        []impl.Note
+	places               []guardedPlace
+	acts                 guardedActs
+}
+
+func guardWorld(w impl.World) guardedWorld {
+	g := guardedWorld{houses: make([]impl.House, len(w.H)+2*spareRoom), net: make([]impl.Note, len(w.Net)+2*spareRoom)}
+	for i := range spareRoom {
+		for _, at := range []int{i, spareRoom + len(w.H) + i} {
+			g.houses[at] = impl.House{P: impl.Place{Id: math.MinInt + at, V: []bool{true}}, Kept: "kept", Late: "late"}
+		}
+		for _, at := range []int{i, spareRoom + len(w.Net) + i} {
+			g.net[at] = impl.Note{To: math.MinInt + at, A: impl.Act{Dep: []int{at}}}
+		}
+	}
+	for i, h := range w.H {
+		g.places = append(g.places, guardPlace(h.P))
+		g.houses[spareRoom+i] = impl.House{P: g.places[i].place, Kept: h.Kept, Late: h.Late}
+	}
+	var acts []impl.Act
+	for _, note := range w.Net {
+		acts = append(acts, note.A)
+	}
+	g.acts = guardActs(acts)
+	for i, note := range w.Net {
+		g.net[spareRoom+i] = impl.Note{To: note.To, A: g.acts.list[i]}
+	}
+	g.world.H = g.houses[spareRoom : spareRoom+len(w.H)]
+	g.world.Net = g.net[spareRoom : spareRoom+len(w.Net)]
+	g.housesAsWere, g.netAsWas = slices.Clone(g.houses), slices.Clone(g.net)
+	return g
+}
+
+func (g guardedWorld) check(t *testing.T, what string) {
+	t.Helper()
+	for i, h := range g.houses {
+		was := g.housesAsWere[i]
+		if h.P.Id != was.P.Id || h.P.N != was.P.N || h.Kept != was.Kept || h.Late != was.Late ||
+			!sameRoom(h.P.L, was.P.L) || !sameRoom(h.P.V, was.P.V) || !sameRoom(h.P.Wait, was.P.Wait) {
+			t.Fatalf("%s: house %d of an argument was written: %+v, was %+v", what, i-spareRoom, h, was)
+		}
+	}
+	for i, note := range g.net {
+		was := g.netAsWas[i]
+		if note.To != was.To || !impl.SameAct(note.A, was.A) || !sameRoom(note.A.Dep, was.A.Dep) || !sameRoom(note.A.Ups, was.A.Ups) {
+			t.Fatalf("%s: note %d of an argument was written: %+v, was %+v", what, i-spareRoom, note, was)
+		}
+	}
+	for _, p := range g.places {
+		p.check(t, what)
+	}
+	g.acts.check(t, what+", Net")
+}
+
+// guardedEvs is a list of events with marked room around it, of which each act
+// is guarded.
+type guardedEvs struct {
+	list, whole, asWas []impl.Ev
+	acts               guardedActs
+}
+
+func guardEvs(l []impl.Ev) guardedEvs {
+	g := guardedEvs{whole: make([]impl.Ev, len(l)+2*spareRoom)}
+	var acts []impl.Act
+	for _, e := range l {
+		acts = append(acts, e.A)
+	}
+	g.acts = guardActs(acts)
+	for i := range g.whole {
+		g.whole[i] = impl.Ev{Kind: math.MinInt + i}
+	}
+	for i, e := range l {
+		e.A = g.acts.list[i]
+		g.whole[spareRoom+i] = e
+	}
+	g.list, g.asWas = g.whole[spareRoom:spareRoom+len(l)], slices.Clone(g.whole)
+	return g
+}
+
+func (g guardedEvs) check(t *testing.T, what string) {
+	t.Helper()
+	for i, e := range g.whole {
+		was := g.asWas[i]
+		if e.Kind != was.Kind || e.I != was.I || e.J != was.J || !impl.SameAct(e.A, was.A) ||
+			!sameRoom(e.A.Dep, was.A.Dep) || !sameRoom(e.A.Ups, was.A.Ups) {
+			t.Fatalf("%s: event %d of an argument was written: %+v, was %+v", what, i-spareRoom, e, was)
+		}
+	}
+	g.acts.check(t, what+", acts of events")
+}
+
+// overwriteWorld fills a world, each list of it, and the spare room behind them.
+// It fails if two lists share memory.
+func overwriteWorld(t *testing.T, w impl.World) {
+	t.Helper()
+	var acts []impl.Act
+	var lists [][]impl.Act
+	houses, net := w.H[:cap(w.H)], w.Net[:cap(w.Net)]
+	for _, h := range houses {
+		lists = append(lists, h.P.L[:cap(h.P.L)], h.P.Wait[:cap(h.P.Wait)])
+	}
+	for _, l := range lists {
+		acts = append(acts, l...)
+	}
+	for _, note := range net {
+		acts = append(acts, note.A)
+	}
+	overwriteActs(t, acts)
+	for i, l := range lists {
+		for k := range l {
+			l[k] = impl.Act{R: -1000 - i}
+		}
+	}
+	for i, l := range lists {
+		if slices.ContainsFunc(l, func(a impl.Act) bool { return a.R != -1000-i }) {
+			t.Fatal("two lists of acts of one answer share memory", i)
+		}
+	}
+	for i, h := range houses {
+		for _, other := range houses {
+			fill(other.P.V, false)
+		}
+		fill(h.P.V, true)
+		for k, other := range houses {
+			if !filled(other.P.V, k == i) {
+				t.Fatal("two lists of flags of one answer share memory", i, k)
+			}
+		}
+	}
+	for i := range houses {
+		houses[i] = impl.House{Kept: "overwritten", Late: "overwritten"}
+	}
+	for i := range net {
+		net[i] = impl.Note{To: -1000}
+	}
+}
